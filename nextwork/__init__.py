@@ -1,0 +1,1 @@
+"""Nextwork: which work to go on with."""

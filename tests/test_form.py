@@ -1,0 +1,75 @@
+"""The form of the package: its files, their size, and the names of the interface."""
+
+import ast
+import unittest
+from pathlib import Path
+
+PACKAGE = Path(__file__).resolve().parent.parent / "nextwork"
+
+# Where the document lists what, with the names of the arguments.
+FUNCTIONS = {
+    "quotients": {
+        "is_fraction": ["value"], "fraction": ["top", "bottom"],
+        "plus": ["one", "other"], "times": ["one", "other"], "compare": ["one", "other"],
+    },
+    "works": {"is_share": ["value"], "is_work": ["value"], "reached": ["work", "state"]},
+}
+CLASSES = {
+    "wrongs": [
+        "WorkError", "NoFraction", "NoWork", "NoShare", "NoState", "NoStates", "NoCompany",
+        "NoStanding", "NoChoice", "NoPlan", "NoRule", "NoPrice", "NoChoices", "NoNumbers",
+        "NoRecord", "NoMove", "NoMark", "TooMany",
+    ],
+}
+LIBRARY = {"heapq", "math", "itertools", "collections", "__future__"}
+
+
+def files():
+    return sorted(path for path in PACKAGE.rglob("*") if path.is_file() and path.suffix != ".pyc")
+
+
+def tree_of(name):
+    return ast.parse((PACKAGE / f"{name}.py").read_text())
+
+
+class Form(unittest.TestCase):
+    def test_files(self):
+        self.assertIn(PACKAGE / "__init__.py", files())
+        self.assertEqual([path for path in files() if path.suffix != ".py"], [])
+
+    def test_size_and_characters(self):
+        for path in files():
+            text = path.read_bytes().decode("ascii")
+            self.assertEqual([c for c in text if c != "\n" and not " " <= c <= "~"], [])
+            self.assertLessEqual(len(text.splitlines()), 399)
+            self.assertLessEqual(max(len(line) for line in text.splitlines()), 120)
+            for node in ast.walk(ast.parse(text)):
+                if isinstance(node, ast.FunctionDef):
+                    self.assertLessEqual(node.end_lineno - node.lineno + 1, 40, node.name)
+
+    def test_imports(self):
+        for path in files():
+            for node in ast.walk(ast.parse(path.read_text())):
+                self.assertNotIsInstance(node, ast.Import)
+                if isinstance(node, ast.ImportFrom):
+                    self.assertEqual(node.level, 0)
+                    top = node.module.split(".")[0]
+                    self.assertIn(top, LIBRARY | {"nextwork"})
+
+    def test_functions_stand_where_they_are_listed(self):
+        for name, wanted in FUNCTIONS.items():
+            told = {
+                node.name: [argument.arg for argument in node.args.args]
+                for node in tree_of(name).body if isinstance(node, ast.FunctionDef)
+            }
+            for function, arguments in wanted.items():
+                self.assertEqual(told.get(function), arguments, function)
+
+    def test_classes_stand_where_they_are_listed(self):
+        for name, wanted in CLASSES.items():
+            told = [node.name for node in tree_of(name).body if isinstance(node, ast.ClassDef)]
+            self.assertEqual(sorted(told), sorted(wanted))
+
+
+if __name__ == "__main__":
+    unittest.main()
