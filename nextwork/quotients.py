@@ -64,3 +64,24 @@ def compare(one, other):
     if left > right:
         return 1
     return 0
+
+
+def minus(one, other):
+    """The difference of two fractions."""
+    return plus(one, times((-1, 1), other))
+
+
+def over(one, other):
+    """The quotient of two fractions, the other one not 0."""
+    need_fraction(one)
+    need_fraction(other)
+    return fraction(one[0] * other[1], one[1] * other[0])
+
+
+def greatest(values):
+    """The greatest of a list of at least one fraction."""
+    most = values[0]
+    for value in values:
+        if compare(value, most) > 0:
+            most = value
+    return most

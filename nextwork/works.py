@@ -1,7 +1,7 @@
 """Works, shares, and the states that a state reaches."""
 
 from nextwork.quotients import is_fraction, is_whole, plus
-from nextwork.wrongs import NoState, NoWork
+from nextwork.wrongs import NoShare, NoState, NoStates, NoWork
 
 MOST_STATES = 6
 
@@ -59,16 +59,40 @@ def is_state(work, value):
     return is_whole(value) and 0 <= value < len(work)
 
 
+def are_states(work, value):
+    """True if the value is an ascending tuple of different states of the work."""
+    if not isinstance(value, tuple):
+        return False
+    before = -1
+    for state in value:
+        if not is_state(work, state) or state <= before:
+            return False
+        before = state
+    return True
+
+
 def need_work(value):
     """Raise NoWork unless the value is a work."""
     if not is_work(value):
         raise NoWork("not a work")
 
 
+def need_share(value):
+    """Raise NoShare unless the value is a share."""
+    if not is_share(value):
+        raise NoShare("not a share")
+
+
 def need_state(work, value):
     """Raise NoState unless the value is the number of a state of the work."""
     if not is_state(work, value):
         raise NoState("not a state of the work")
+
+
+def need_states(work, value):
+    """Raise NoStates unless the value is an ascending tuple of different states of the work."""
+    if not are_states(work, value):
+        raise NoStates("not an ascending tuple of different states of the work")
 
 
 def reached(work, state):

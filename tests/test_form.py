@@ -13,6 +13,23 @@ FUNCTIONS = {
         "plus": ["one", "other"], "times": ["one", "other"], "compare": ["one", "other"],
     },
     "works": {"is_share": ["value"], "is_work": ["value"], "reached": ["work", "state"]},
+    "stopping": {
+        "spent": ["work", "share", "state", "states"], "rate": ["work", "share", "state", "states"],
+    },
+    "numbers": {
+        "numbers": ["work", "share"], "states_above": ["work", "share", "state"],
+        "states_not_less": ["work", "share", "state"], "ranking": ["work", "share"],
+    },
+    "shown": {
+        "heights": ["work", "share", "bound"],
+        "is_floor": ["work", "share", "state", "bound", "value"],
+        "is_ceiling": ["work", "share", "state", "bound", "value"],
+        "pay_for": ["work", "share", "state", "bound"],
+    },
+    "companies": {
+        "is_company": ["value"], "standings": ["company"],
+        "plan_values": ["company", "share", "plan"], "better_at": ["company", "share", "plan"],
+    },
 }
 CLASSES = {
     "wrongs": [

@@ -1,0 +1,97 @@
+"""Companies of works, their standings, and the values of plans."""
+
+from nextwork.chains import one_step, sums
+from nextwork.quotients import compare, is_whole
+from nextwork.works import is_work, need_share
+from nextwork.wrongs import NoCompany, NoPlan
+
+MOST_WORKS = 3
+MOST_STANDINGS = 12
+
+
+def is_company(value):
+    """True if the value is a company, otherwise False."""
+    if not isinstance(value, tuple) or not 1 <= len(value) <= MOST_WORKS:
+        return False
+    many = 1
+    for work in value:
+        if not is_work(work):
+            return False
+        many = many * len(work)
+    return many <= MOST_STANDINGS
+
+
+def is_number_of_work(company, value):
+    """True if the value is the number of a work of the company."""
+    return is_whole(value) and 0 <= value < len(company)
+
+
+def is_plan(company, value):
+    """True if the value is a plan of the company."""
+    if not isinstance(value, tuple) or len(value) != len(all_standings(company)):
+        return False
+    return all(is_number_of_work(company, entry) for entry in value)
+
+
+def need_company(value):
+    """Raise NoCompany unless the value is a company."""
+    if not is_company(value):
+        raise NoCompany("not a company")
+
+
+def need_plan(company, value):
+    """Raise NoPlan unless the value is a plan of the company."""
+    if not is_plan(company, value):
+        raise NoPlan("not a plan of the company")
+
+
+def all_standings(company):
+    """The ascending list of the standings of what is known to be a company."""
+    found = [()]
+    for work in company:
+        found = [front + (state,) for front in found for state in range(len(work))]
+    return found
+
+
+def standings(company):
+    """The ascending list of the standings."""
+    need_company(company)
+    return all_standings(company)
+
+
+def moved(standing, work, state):
+    """The standing after the work, and this work alone, has moved to the state."""
+    return standing[:work] + (state,) + standing[work + 1:]
+
+
+def steps_of(company, standing):
+    """For each work the tuple (pay, moves to standings) of going on with it there."""
+    found = []
+    for work, state in enumerate(standing):
+        pay, moves = company[work][state]
+        found.append((pay, [(moved(standing, work, target), chance) for target, chance in moves]))
+    return found
+
+
+def plan_values(company, share, plan):
+    """The tuple of the values of the standings by the plan."""
+    need_company(company)
+    need_share(share)
+    need_plan(company, plan)
+    rows = all_standings(company)
+    places = {standing: place for place, standing in enumerate(rows)}
+    steps = [steps_of(company, standing)[work] for standing, work in zip(rows, plan)]
+    pays = [pay for pay, _ in steps]
+    moves = [[(places[target], chance) for target, chance in row] for _, row in steps]
+    return tuple(sums(share, pays, moves))
+
+
+def better_at(company, share, plan):
+    """The least tuple (standing, work) where the work brings more than the plan, or None."""
+    values = plan_values(company, share, plan)
+    by_standing = dict(zip(all_standings(company), values))
+    for standing, value in by_standing.items():
+        for work, (pay, moves) in enumerate(steps_of(company, standing)):
+            if compare(one_step(share, pay, moves, by_standing), value) > 0:
+                return (standing, work)
+    return None
