@@ -1,16 +1,23 @@
-"""Chains of places: what is brought from each place on, later pay counted less."""
+"""Chains of places: what is brought from each place on, later pay counted less.
 
-from math import lcm
+All is counted in whole numbers over one bottom and brought to lowest terms
+only at the end: great values would make each single step on fractions slow.
+"""
 
-from nextwork.quotients import fraction, plus, times
+from nextwork.quotients import common_bottom, fraction
 
 
 def one_step(share, pay, moves, values):
     """The pay plus the share times the mean of the values behind the moves (place, chance)."""
-    mean = (0, 1)
-    for place, chance in moves:
-        mean = plus(mean, times(chance, values[place]))
-    return plus(pay, times(share, mean))
+    chances = common_bottom([chance for _, chance in moves])
+    common = common_bottom([pay] + [values[place] for place, _ in moves])
+    behind = 0
+    for place, (part, parts) in moves:
+        top, bottom = values[place]
+        behind += part * (chances // parts) * top * (common // bottom)
+    top, bottom = share
+    brought = pay[0] * (common // pay[1]) * chances * bottom + top * behind
+    return fraction(brought, common * chances * bottom)
 
 
 def sums(share, pays, moves):
@@ -19,9 +26,7 @@ def sums(share, pays, moves):
     Each place has its pay and a row of moves (place, chance). Where the
     chances of a row add up to less than 1, the rest is the chance to stop.
     """
-    # Whole numbers all along, brought to lowest terms only at the end: great
-    # pays would make each single step on fractions slow.
-    common = _common_bottom(pays)
+    common = common_bottom(pays)
     equations = []
     for place, (top, bottom) in enumerate(pays):
         equations.append(_equation(share, place, top * (common // bottom), moves[place], len(pays)))
@@ -31,18 +36,10 @@ def sums(share, pays, moves):
     ]
 
 
-def _common_bottom(values):
-    """The least number that the bottoms of all the fractions divide."""
-    common = 1
-    for _, bottom in values:
-        common = lcm(common, bottom)
-    return common
-
-
 def _equation(share, place, pay, moves, many):
     """The whole factors of the sums of all places, and behind them what they add up to."""
     top, bottom = share
-    common = _common_bottom([chance for _, chance in moves])
+    common = common_bottom([chance for _, chance in moves])
     row = [0] * many
     row[place] = bottom * common
     for target, chance in moves:

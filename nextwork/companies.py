@@ -1,9 +1,9 @@
 """Companies of works, their standings, and the values of plans."""
 
-from nextwork.chains import one_step, sums
-from nextwork.quotients import compare, is_whole
-from nextwork.works import is_work, need_share
-from nextwork.wrongs import NoCompany, NoPlan
+from nextwork.plans import first_better, values_by
+from nextwork.quotients import is_whole
+from nextwork.works import is_state, is_work, need_share
+from nextwork.wrongs import NoCompany, NoPlan, NoStanding
 
 MOST_WORKS = 3
 MOST_STANDINGS = 12
@@ -26,9 +26,21 @@ def is_number_of_work(company, value):
     return is_whole(value) and 0 <= value < len(company)
 
 
+def is_standing(company, value):
+    """True if the value is a standing of the company."""
+    if not isinstance(value, tuple) or len(value) != len(company):
+        return False
+    return all(is_state(work, state) for work, state in zip(company, value))
+
+
 def is_plan(company, value):
     """True if the value is a plan of the company."""
-    if not isinstance(value, tuple) or len(value) != len(all_standings(company)):
+    return are_works(company, value, len(all_standings(company)))
+
+
+def are_works(company, value, many):
+    """True if the value is a tuple of so many numbers of works of the company."""
+    if not isinstance(value, tuple) or len(value) != many:
         return False
     return all(is_number_of_work(company, entry) for entry in value)
 
@@ -37,6 +49,12 @@ def need_company(value):
     """Raise NoCompany unless the value is a company."""
     if not is_company(value):
         raise NoCompany("not a company")
+
+
+def need_standing(company, value):
+    """Raise NoStanding unless the value is a standing of the company."""
+    if not is_standing(company, value):
+        raise NoStanding("not a standing of the company")
 
 
 def need_plan(company, value):
@@ -73,25 +91,23 @@ def steps_of(company, standing):
     return found
 
 
+def all_steps(company):
+    """The dict of the steps of all standings, ascending."""
+    return {standing: steps_of(company, standing) for standing in all_standings(company)}
+
+
 def plan_values(company, share, plan):
     """The tuple of the values of the standings by the plan."""
     need_company(company)
     need_share(share)
     need_plan(company, plan)
-    rows = all_standings(company)
-    places = {standing: place for place, standing in enumerate(rows)}
-    steps = [steps_of(company, standing)[work] for standing, work in zip(rows, plan)]
-    pays = [pay for pay, _ in steps]
-    moves = [[(places[target], chance) for target, chance in row] for _, row in steps]
-    return tuple(sums(share, pays, moves))
+    return tuple(values_by(share, all_steps(company), plan).values())
 
 
 def better_at(company, share, plan):
     """The least tuple (standing, work) where the work brings more than the plan, or None."""
-    values = plan_values(company, share, plan)
-    by_standing = dict(zip(all_standings(company), values))
-    for standing, value in by_standing.items():
-        for work, (pay, moves) in enumerate(steps_of(company, standing)):
-            if compare(one_step(share, pay, moves, by_standing), value) > 0:
-                return (standing, work)
-    return None
+    need_company(company)
+    need_share(share)
+    need_plan(company, plan)
+    steps = all_steps(company)
+    return first_better(share, steps, values_by(share, steps, plan))

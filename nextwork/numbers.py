@@ -5,9 +5,9 @@ from nextwork.stopping import all_spent
 from nextwork.works import need_share, need_state, need_work
 
 
-def _groups(work, share):
+def groups(work, share):
     """The list of tuples (number, states with it), the greatest number first."""
-    groups = []
+    found = []
     above = []
     while len(above) < len(work):
         # The greatest number of those left is reached within the states above,
@@ -16,9 +16,9 @@ def _groups(work, share):
         left = [state for state in range(len(work)) if state not in above]
         most = greatest([rates[state] for state in left])
         group = [state for state in left if rates[state] == most]
-        groups.append((most, group))
+        found.append((most, group))
         above = above + group
-    return groups
+    return found
 
 
 def numbers(work, share):
@@ -26,7 +26,7 @@ def numbers(work, share):
     need_work(work)
     need_share(share)
     found = [(0, 1)] * len(work)
-    for number, states in _groups(work, share):
+    for number, states in groups(work, share):
         for state in states:
             found[state] = number
     return tuple(found)
@@ -54,4 +54,4 @@ def ranking(work, share):
     """The list of the ascending lists of states with equal numbers, the greatest number first."""
     need_work(work)
     need_share(share)
-    return [states for _, states in _groups(work, share)]
+    return [states for _, states in groups(work, share)]

@@ -1,6 +1,6 @@
 """Fractions: tuples (top, bottom) in lowest terms, bottom at least 1."""
 
-from math import gcd
+from math import gcd, lcm
 
 from nextwork.wrongs import NoFraction
 
@@ -85,3 +85,11 @@ def greatest(values):
         if compare(value, most) > 0:
             most = value
     return most
+
+
+def common_bottom(values):
+    """The least number that the bottoms of all the fractions divide."""
+    common = 1
+    for _, bottom in values:
+        common = lcm(common, bottom)
+    return common

@@ -6,115 +6,13 @@ from fractions import Fraction
 from itertools import product
 
 from nextwork.companies import better_at, is_company, plan_values, standings
-from nextwork.numbers import numbers
 from nextwork.stopping import spent
 from nextwork.wrongs import NoCompany, NoPlan, NoShare
-from samples import (
-    NOT_SHARES, NOT_WORKS, SHARES, PlainCase, chain, deep, drawn_work, exact, pair, ring, with_pays, work_of,
+from sample_companies import (
+    EXAMPLE, HALF, NOT_COMPANIES, ONE, SIZES, all_plans, all_standings, as_lists, brought, drawn_companies,
+    drawn_company, drawn_plan, first_better, not_plans, plan_by_numbers, value_table,
 )
-
-EXAMPLE = ((((3, 1), ((1, (1, 1)),)), ((0, 1), ((1, (1, 1)),))), (((2, 1), ((0, (1, 1)),)),))
-ONE = (((2, 1), ((0, (1, 1)),)),)
-HALF = (1, 2)
-
-# The numbers of states of the works of a company, up to the most that there may be.
-SIZES = [
-    (1,), (2,), (6,), (1, 1), (2, 2), (3, 2), (1, 6), (6, 2), (2, 6), (3, 4), (4, 3),
-    (1, 1, 1), (2, 1, 2), (1, 4, 1), (2, 2, 2), (2, 2, 3), (3, 2, 2), (2, 1, 6), (1, 4, 3),
-]
-TOO_MANY = [
-    (3, 5), (5, 3), (4, 4), (6, 3), (6, 6), (2, 2, 4), (3, 3, 2), (5, 1, 3), (1, 3, 5), (6, 6, 6),
-]
-
-
-def drawn_company(draw, sizes):
-    return tuple(drawn_work(draw, many, draw.choice([1, 2, many])) for many in sizes)
-
-
-def drawn_companies(seed, each=1):
-    """So many companies of each of the sizes, the same in each run."""
-    draw = random.Random(seed)
-    return [drawn_company(draw, sizes) for sizes in SIZES for _ in range(each)]
-
-
-def all_standings(company):
-    return list(product(*[range(len(work)) for work in company]))
-
-
-def drawn_plan(draw, company):
-    return tuple(draw.randrange(len(company)) for _ in all_standings(company))
-
-
-def all_plans(company):
-    return list(product(range(len(company)), repeat=len(all_standings(company))))
-
-
-def plan_by_numbers(company, share):
-    """At each standing the least of the works whose states have the greatest number."""
-    told = [[exact(number) for number in numbers(work, share)] for work in company]
-    found = []
-    for standing in all_standings(company):
-        here = [told[work][state] for work, state in enumerate(standing)]
-        found.append(here.index(max(here)))
-    return tuple(found)
-
-
-def brought(company, share, standing, work, values):
-    """The pay of going on with the work, plus the share times the mean of the values behind it."""
-    pay, moves = company[work][standing[work]]
-    behind = Fraction(0)
-    for state, chance in moves:
-        target = list(standing)
-        target[work] = state
-        behind += exact(chance) * values[tuple(target)]
-    return exact(pay) + exact(share) * behind
-
-
-def value_table(company, values):
-    return {standing: exact(value) for standing, value in zip(all_standings(company), values)}
-
-
-def first_better(company, share, values):
-    """The least tuple (standing, work) that brings more than the value, or None."""
-    table = value_table(company, values)
-    for standing in sorted(table):
-        for work in range(len(company)):
-            if brought(company, share, standing, work, table) > table[standing]:
-                return (standing, work)
-    return None
-
-
-def as_lists(value):
-    """The value with lists for its tuples at one place after the other, at any depth."""
-    if not isinstance(value, tuple):
-        return []
-    found = [list(value)]
-    for at, entry in enumerate(value):
-        found.extend(value[:at] + (other,) + value[at + 1:] for other in as_lists(entry))
-    return found
-
-
-NOT_COMPANIES = (
-    [(work,) for work in NOT_WORKS] + [(ONE, work) for work in NOT_WORKS] + [(work, ONE) for work in NOT_WORKS]
-    + [
-        None, True, False, 0, 1, "", "ab", (), [], ONE, chain(3), [ONE], [ONE, ONE], (ONE,) * 4, (ONE,) * 5,
-        (ONE, ONE, ONE, chain(2)), (EXAMPLE,), (ONE, EXAMPLE), (1, 2), ((),), ((), ()),
-    ]
-    + [tuple(chain(many) for many in sizes) for sizes in TOO_MANY]
-)
-
-
-def not_plans(company):
-    """What is not a plan of the company."""
-    good = (0,) * len(all_standings(company))
-    found = [
-        None, True, False, 0, 1, "", "0" * len(good), (), [], list(good), good + (0,), good[1:], good + good,
-        (good,), [good],
-    ]
-    for entry in (len(company), len(company) + 1, -1, -len(company), 10 ** 30, True, False, None, "0", (0,), [0], ()):
-        found.append((entry,) + good[1:])
-        found.append(good[:-1] + (entry,))
-    return found
+from samples import NOT_SHARES, SHARES, PlainCase, chain, deep, exact, pair, ring, with_pays, work_of
 
 
 class Example(unittest.TestCase):

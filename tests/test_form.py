@@ -30,6 +30,20 @@ FUNCTIONS = {
         "is_company": ["value"], "standings": ["company"],
         "plan_values": ["company", "share", "plan"], "better_at": ["company", "share", "plan"],
     },
+    "best": {
+        "best_values": ["company", "share"], "rule_by_numbers": ["company", "share"],
+        "rule_by_pays": ["company"], "is_rule": ["company", "value"],
+        "rule_plan": ["company", "rule"], "loss": ["company", "share", "rule"],
+    },
+    "curves": {
+        "curve": ["work", "share", "state"], "worth": ["work", "share", "state", "offer"],
+        "company_curve": ["company", "share", "standing"],
+        "company_worth": ["company", "share", "standing", "offer"],
+    },
+    "changes": {
+        "change_values": ["company", "share", "price", "plan"],
+        "best_with_changes": ["company", "share", "price"], "change_loss": ["company", "share", "price"],
+    },
 }
 CLASSES = {
     "wrongs": [
