@@ -2,7 +2,7 @@
 
 from nextwork.plans import first_better, values_by
 from nextwork.quotients import is_whole
-from nextwork.works import is_state, is_work, need_share
+from nextwork.works import is_state, is_work, need_share, with_entry
 from nextwork.wrongs import NoCompany, NoPlan, NoStanding
 
 MOST_WORKS = 3
@@ -30,7 +30,7 @@ def is_standing(company, value):
     """True if the value is a standing of the company."""
     if not isinstance(value, tuple) or len(value) != len(company):
         return False
-    return all(is_state(work, state) for work, state in zip(company, value))
+    return all([is_state(work, state) for work, state in zip(company, value)])
 
 
 def is_plan(company, value):
@@ -77,17 +77,12 @@ def standings(company):
     return all_standings(company)
 
 
-def moved(standing, work, state):
-    """The standing after the work, and this work alone, has moved to the state."""
-    return standing[:work] + (state,) + standing[work + 1:]
-
-
 def steps_of(company, standing):
     """For each work the tuple (pay, moves to standings) of going on with it there."""
     found = []
     for work, state in enumerate(standing):
         pay, moves = company[work][state]
-        found.append((pay, [(moved(standing, work, target), chance) for target, chance in moves]))
+        found.append((pay, [(with_entry(standing, work, target), chance) for target, chance in moves]))
     return found
 
 

@@ -77,7 +77,7 @@ def company_curve(company, share, standing):
     need_share(share)
     need_standing(company, standing)
     curves = [curve(work, share, state) for work, state in zip(company, standing)]
-    starts = [start for pieces in curves for start, _, _ in pieces if start is not None]
+    starts = [piece[0] for pieces in curves for piece in pieces[1:]]
     rows = []
     while starts:
         start = greatest(starts)
@@ -90,8 +90,7 @@ def _slopes_below(curves, start):
     """The product of the slopes that the curves have just below the start."""
     product = (1, 1)
     for pieces in curves:
-        _, _, slope = _piece_below(pieces, start)
-        product = times(product, slope)
+        product = times(product, _piece_below(pieces, start)[2])
     return product
 
 

@@ -20,6 +20,13 @@ def is_fraction(value):
     return bottom >= 1 and gcd(top, bottom) == 1
 
 
+def are_fractions(value, many):
+    """True if the value is a tuple of so many fractions."""
+    if not isinstance(value, tuple) or len(value) != many:
+        return False
+    return all(is_fraction(entry) for entry in value)
+
+
 def need_fraction(value):
     """Raise NoFraction unless the value is a fraction."""
     if not is_fraction(value):

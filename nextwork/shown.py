@@ -2,9 +2,9 @@
 
 from nextwork.chains import one_step
 from nextwork.numbers import numbers
-from nextwork.quotients import compare, is_fraction, minus, need_fraction
+from nextwork.quotients import are_fractions, compare, minus, need_fraction
 from nextwork.stopping import going_on, rate
-from nextwork.works import are_states, need_share, need_state, need_work
+from nextwork.works import are_states, need_share, need_state, need_work, with_entry
 
 
 def heights(work, share, bound):
@@ -14,8 +14,13 @@ def heights(work, share, bound):
     need_fraction(bound)
     # Going on pays just where the number is greater than the bound.
     above = [state for state, number in enumerate(numbers(work, share)) if compare(number, bound) > 0]
-    brought = going_on(work, share, [minus(pay, bound) for pay, _ in work], above)
-    return tuple([most if state in above else (0, 1) for state, most in enumerate(brought)])
+    return tuple(heights_within(work, share, [pay for pay, _ in work], bound, above))
+
+
+def heights_within(work, share, pays, bound, states):
+    """What going on within the states brings above the bound: from each of them, and 0 for all others."""
+    brought = going_on(work, share, [minus(pay, bound) for pay in pays], states)
+    return [most if state in states else (0, 1) for state, most in enumerate(brought)]
 
 
 def is_floor(work, share, state, bound, value):
@@ -43,9 +48,7 @@ def is_ceiling(work, share, state, bound, value):
 
 def are_heights(work, value):
     """True if the value is a tuple of fractions, one for each state and none less than 0."""
-    if not isinstance(value, tuple) or len(value) != len(work):
-        return False
-    return all(is_fraction(entry) and entry[0] >= 0 for entry in value)
+    return are_fractions(value, len(work)) and all(top >= 0 for top, _ in value)
 
 
 def pay_for(work, share, state, bound):
@@ -57,6 +60,6 @@ def pay_for(work, share, state, bound):
     # Where the number of the state is the bound, coming back to it brings
     # nothing above the bound. A state that brings the bound for ever is the same.
     as_bound = (bound, ((state, (1, 1)),))
-    behind = heights(work[:state] + (as_bound,) + work[state + 1:], share, bound)
+    behind = heights(with_entry(work, state, as_bound), share, bound)
     _, moves = work[state]
     return minus(bound, one_step(share, (0, 1), moves, behind))

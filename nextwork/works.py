@@ -95,6 +95,11 @@ def need_states(work, value):
         raise NoStates("not an ascending tuple of different states of the work")
 
 
+def with_entry(entries, at, entry):
+    """The tuple with the entry in the place of the one that stands there."""
+    return entries[:at] + (entry,) + entries[at + 1:]
+
+
 def reached(work, state):
     """The ascending list of the states that the state reaches, itself too."""
     need_work(work)

@@ -201,3 +201,52 @@ def _great_pay(draw, kind):
     if kind == 1:
         return 1 + Fraction(draw.randint(-9, 9), 10 ** 300)
     return Fraction(draw.randint(-9, 9), 7 ** 300)
+
+
+def all_choices(company):
+    """All tuples (standing, work)."""
+    return list(product(all_standings(company), range(len(company))))
+
+
+def drawn_choices(draw, company, many):
+    """So many choices that no rule need make."""
+    return tuple(draw.choice(all_choices(company)) for _ in range(many))
+
+
+def choices_by(draw, company, rule, many):
+    """So many choices that the rule makes."""
+    made = list(zip(all_standings(company), plan_by_rule(company, rule)))
+    return tuple(draw.choice(made) for _ in range(many))
+
+
+def made_by(company, choices, rule):
+    """Whether the rule makes all choices."""
+    return all(
+        all(rule.index((work, standing[work])) <= rule.index(pair) for pair in enumerate(standing))
+        for standing, work in choices
+    )
+
+
+def ring_by_words(choices, value):
+    """Whether the tuple of numbers of choices is a ring."""
+    for at, number in enumerate(value):
+        standing, work = choices[number]
+        target, first = choices[value[(at + 1) % len(value)]]
+        if first == work or standing[first] != target[first]:
+            return False
+    return True
+
+
+def not_choices(company):
+    """What is not choices of the company."""
+    good = ((0,) * len(company), 0)
+    found = [
+        None, True, False, 0, 1, "", "ab", [], [good], good, good[0], (good,) * 21, (good,) * 1000,
+        ((good,),), ([good],), (list(good),), (good, good[::-1]), ((),), (None,), (0,), ("00",),
+        (good[:1],), (good + (0,),), (good, good[:1]), ((list(good[0]), 0),),
+    ]
+    for standing in not_standings(company):
+        found.extend([((standing, 0),), (good, (standing, 0)), ((standing, 0), good)])
+    for work in (len(company), len(company) + 1, -1, 10 ** 30, True, False, None, "0", (0,), [0], ()):
+        found.extend([((good[0], work),), (good, (good[0], work)), ((good[0], work), good)])
+    return found

@@ -44,6 +44,18 @@ FUNCTIONS = {
         "change_values": ["company", "share", "price", "plan"],
         "best_with_changes": ["company", "share", "price"], "change_loss": ["company", "share", "price"],
     },
+    "seen": {
+        "rule_of": ["company", "choices"], "makes": ["company", "choices", "rule"],
+        "is_ring": ["company", "choices", "value"],
+    },
+    "records": {"judge": ["record"]},
+    "wanted": {"work_with": ["work", "share", "wanted"], "company_for": ["company", "share", "choices"]},
+}
+METHODS = {
+    "__init__": ["self", "company", "share", "standing"], "go": ["self", "work", "state"],
+    "set_pay": ["self", "work", "state", "pay"], "mark": ["self"], "back": ["self", "number"],
+    "company": ["self"], "standing": ["self"], "log": ["self"], "earned": ["self"], "next_work": ["self"],
+    "worth_now": ["self"], "cost_of": ["self", "work"], "marks": ["self"],
 }
 CLASSES = {
     "wrongs": [
@@ -51,6 +63,7 @@ CLASSES = {
         "NoStanding", "NoChoice", "NoPlan", "NoRule", "NoPrice", "NoChoices", "NoNumbers",
         "NoRecord", "NoMove", "NoMark", "TooMany",
     ],
+    "desk": ["Desk"],
 }
 LIBRARY = {"heapq", "math", "itertools", "collections", "__future__"}
 
@@ -61,6 +74,14 @@ def files():
 
 def tree_of(name):
     return ast.parse((PACKAGE / f"{name}.py").read_text())
+
+
+def arguments_of(body):
+    """The names of the arguments of all functions that stand in the body itself."""
+    return {
+        node.name: [argument.arg for argument in node.args.args]
+        for node in body if isinstance(node, ast.FunctionDef)
+    }
 
 
 class Form(unittest.TestCase):
@@ -89,10 +110,7 @@ class Form(unittest.TestCase):
 
     def test_functions_stand_where_they_are_listed(self):
         for name, wanted in FUNCTIONS.items():
-            told = {
-                node.name: [argument.arg for argument in node.args.args]
-                for node in tree_of(name).body if isinstance(node, ast.FunctionDef)
-            }
+            told = arguments_of(tree_of(name).body)
             for function, arguments in wanted.items():
                 self.assertEqual(told.get(function), arguments, function)
 
@@ -100,6 +118,12 @@ class Form(unittest.TestCase):
         for name, wanted in CLASSES.items():
             told = [node.name for node in tree_of(name).body if isinstance(node, ast.ClassDef)]
             self.assertEqual(sorted(told), sorted(wanted))
+
+    def test_methods_stand_in_their_class(self):
+        for node in tree_of("desk").body:
+            if isinstance(node, ast.ClassDef):
+                told = arguments_of(node.body)
+                self.assertEqual({name: told.get(name) for name in METHODS}, METHODS)
 
 
 if __name__ == "__main__":
